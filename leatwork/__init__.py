@@ -1,0 +1,1 @@
+"""Leatwork: threads that wait for values."""
