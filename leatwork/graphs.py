@@ -76,11 +76,12 @@ def look(node):
 def least(graph):
     """Returns the least graph of the tree."""
     group_of = grouped([look(node) for node in graph], [parts_of(node) for node in graph])
-    one_of_each = {group_of[k]: _with_parts(node, group_of) for k, node in enumerate(graph)}
+    one_of_each = {group_of[k]: with_parts(node, group_of) for k, node in enumerate(graph)}
     return _from_root(one_of_each, group_of[0])
 
 
-def _with_parts(node, numbers):
+def with_parts(node, numbers):
+    """Returns the node with the numbers of its parts in place of its parts."""
     if node[0] != "tuple":
         return node
     return ("tuple", node[1], tuple([numbers[part] for part in node[2]]))
@@ -95,7 +96,7 @@ def _from_root(nodes, root):
         if k not in numbers:
             numbers[k] = len(numbers)
             stack.extend(parts_of(nodes[k])[::-1])
-    return tuple([_with_parts(nodes[k], numbers) for k in numbers])
+    return tuple([with_parts(nodes[k], numbers) for k in numbers])
 
 
 def is_infinite(graph):
@@ -148,7 +149,7 @@ def cut(graph, depth):
     tops = [_cut_off(node) for node in graph]
     numbers = [trees.setdefault(node, len(trees)) for node in tops]
     for _ in range(depth):
-        tops = [_with_parts(node, numbers) for node in graph]
+        tops = [with_parts(node, numbers) for node in graph]
         numbers = [trees.setdefault(node, len(trees)) for node in tops]
     result = _from_root(list(trees), numbers[0])
     if len(result) > MOST_NODES:

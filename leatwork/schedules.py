@@ -1,0 +1,65 @@
+"""Runs of machines (points 18 and 19)."""
+
+from leatwork.errors import TooMany
+from leatwork.machine import Machine
+
+MOST_STEPS = 3000
+
+
+def run(machine, schedule):
+    """Runs the machine, which is changed by it, and returns the number of steps taken."""
+    taken = 0
+    ready = machine.ready()
+    while ready and taken < MOST_STEPS:
+        n = schedule[taken] if taken < len(schedule) else 0
+        machine.step(ready[n % len(ready)])
+        taken += 1
+        ready = machine.ready()
+    return taken
+
+
+def outcome_by(program, schedule):
+    """Returns the outcome of a program behind a run; raises TooMany."""
+    machine = Machine(program)
+    run(machine, schedule)
+    return machine.outcome()
+
+
+def all_outcomes(program, most):
+    """Returns the ascending list of the outcomes of all runs; raises TooMany if more machines would be looked at."""
+    machine = Machine(program)
+    outcomes = {}
+    todo = []
+    many = 1
+    while machine is not None:
+        moves = _moves(machine)
+        if not moves:
+            outcomes[machine.outcome()] = True
+        elif machine.steps() < MOST_STEPS:
+            # Each of these leads to one machine, so they can be counted before it is made.
+            many += len(moves)
+            if many > most:
+                raise TooMany("there are too many machines to look at")
+            todo.extend([(machine, move) for move in moves])
+        machine = _moved(todo.pop()) if todo else None
+    return sorted(outcomes)
+
+
+def _moves(machine):
+    """Returns the list of the moves that a machine can make: a step, or a choice of one of two."""
+    found = [("step", k) for k in machine.ready()]
+    for k in range(machine.threads()):
+        if machine.status(k) == "choosing":
+            found.extend([("choose", k, False), ("choose", k, True)])
+    return found
+
+
+def _moved(pair):
+    """Returns what becomes of a copy of the machine of the pair by the move of the pair."""
+    machine = pair[0].copy()
+    move = pair[1]
+    if move[0] == "step":
+        machine.step(move[1])
+    else:
+        machine.choose(move[1], move[2])
+    return machine
