@@ -27,11 +27,12 @@ def outcome_by(program, schedule):
 
 def all_outcomes(program, most):
     """Returns the ascending list of the outcomes of all runs; raises TooMany if more machines would be looked at."""
-    machine = Machine(program)
     outcomes = {}
-    todo = []
+    todo = [(Machine(program), ("begin",))]
     many = 1
-    while machine is not None:
+    while todo:
+        before, move = todo.pop()
+        machine = _moved(before, move)
         moves = _moves(machine)
         if not moves:
             outcomes[machine.outcome()] = True
@@ -40,8 +41,7 @@ def all_outcomes(program, most):
             many += len(moves)
             if many > most:
                 raise TooMany("there are too many machines to look at")
-            todo.extend([(machine, move) for move in moves])
-        machine = _moved(todo.pop()) if todo else None
+            todo.extend([(machine, following) for following in moves])
     return sorted(outcomes)
 
 
@@ -54,12 +54,11 @@ def _moves(machine):
     return found
 
 
-def _moved(pair):
-    """Returns what becomes of a copy of the machine of the pair by the move of the pair."""
-    machine = pair[0].copy()
-    move = pair[1]
+def _moved(machine, move):
+    """Returns what becomes of a copy of the machine by a move."""
+    result = machine.copy()
     if move[0] == "step":
-        machine.step(move[1])
-    else:
-        machine.choose(move[1], move[2])
-    return machine
+        result.step(move[1])
+    elif move[0] == "choose":
+        result.choose(move[1], move[2])
+    return result

@@ -99,9 +99,18 @@ class Statuses(unittest.TestCase):
             before = seen(machine)
             with self.assertRaises(NotReady):
                 machine.step(0)
-            for thread in (1, 2, 60, 1000):
+            self.assertEqual(seen(machine), before)
+
+    def test_a_thread_that_is_not_there_is_not_ready(self):
+        for statement in (SKIP, CHOICE):
+            machine = make(statement)
+            before = seen(machine)
+            for thread in (-1, 1, 2, 60, 1000):
                 with self.assertRaises(NotReady):
                     machine.step(thread)
+                for second in (True, False):
+                    with self.assertRaises(NotReady):
+                        machine.choose(thread, second)
             self.assertEqual(seen(machine), before)
 
     def test_waiting_is_lost_by_a_step_that_goes_on(self):
@@ -144,9 +153,8 @@ class Choose(unittest.TestCase):
             machine = steps(make(statement), taken)
             before = seen(machine)
             for second in (True, False):
-                for thread in (0, 1, 60):
-                    with self.assertRaises(NotReady):
-                        machine.choose(thread, second)
+                with self.assertRaises(NotReady):
+                    machine.choose(0, second)
             self.assertEqual(seen(machine), before)
 
     def test_the_thread_that_chooses(self):
@@ -236,6 +244,10 @@ class Outcome(unittest.TestCase):
         statement = seq(("tuple", "X", "f", ("Part", "Wait", "Y", "Width")), call("NewCell", "X", "Y"))
         self.assertEqual(self.outcome(statement), ((
             "f(<builtin 8> <builtin 0> <cell 0> <builtin 7>)", "<cell 0>", "_0"), ()))
+
+    def test_only_nine_names_are_built_in(self):
+        self.assertEqual(self.outcome(SKIP, X="<builtin 9>", Y="<builtin 8>", Z="<other 7>"),
+                         (("<builtin 0>", "<builtin 8>", "<other 0>"), ()))
 
     def test_numbers_in_an_infinite_tree_are_those_of_its_least_graph(self):
         self.assertEqual(self.outcome(SKIP, X="f(_1 2=g(@2 _5))"), (("f(_0 2=g(@2 _1))", "_2", "_3"), ()))

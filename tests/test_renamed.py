@@ -124,6 +124,13 @@ class Renamed(unittest.TestCase):
         self.gives(local("X", ("proc", "X", ("X",), ("raise", "X"))), {"X": "Z"},
                    local("Z", ("proc", "Z", ("Z",), ("raise", "Z"))))
 
+    def test_what_a_statement_makes_is_not_what_it_uses(self):
+        self.gives(("proc", "X", ("X",), ("raise", "X")), {"X": "Z"}, ("proc", "X", ("Z",), ("raise", "Z")))
+        self.gives(("case", "X", ("tuple", "f", ("X", "Y")), ("bind", "X", "Y"), ("bind", "X", "Y")),
+                   {"X": "Z", "Y": "X"},
+                   ("case", "X", ("tuple", "f", ("Z", "X")), ("bind", "Z", "X"), ("bind", "X", "Y")))
+        self.gives(("try", ("raise", "X"), "X", ("raise", "X")), {"X": "Z"}, ("try", ("raise", "X"), "Z", ("raise", "Z")))
+
     def test_one_identifier_that_is_made_twice(self):
         self.gives(("local", "A", seq(("local", "A", ("raise", "A")), ("raise", "A"))), {"A": "B"},
                    ("local", "B", seq(("local", "B", ("raise", "B")), ("raise", "B"))))

@@ -176,7 +176,8 @@ class Steps(unittest.TestCase):
     def test_call(self):
         self.waits(call("X"), "X")
         self.waits(call("X", "Y"), "X", room=0)
-        for value in ("1", "a", "f(1)", "<cell 0>", "<port 0>", "<proc 0>", "<proc 7>", "<builtin 9>", "<call 0>"):
+        for value in ("1", "a", "f(1)", "<cell 0>", "<port 0>", "<proc 0>", "<proc 7>", "<builtin 9>", "<call 0>",
+                      "proc", "proc(1)", "builtin", "builtin(1)"):
             self.raises(call("X"), "type", X=value)
             self.raises(call("X", *["Y"] * 7), "type", 0, 0, X=value)
 
@@ -423,7 +424,7 @@ class Steps(unittest.TestCase):
 
     def test_exchange(self):
         self.waits(call("Exchange", "X", "Y", "Z"), "X", room=0)
-        for value in ("1", "a", "f(1)", "<port 0>", "<proc 0>", "<cell 0>", "<builtin 3>"):
+        for value in ("1", "a", "f(1)", "<port 0>", "<proc 0>", "<cell 0>", "<builtin 3>", "cell", "cell(1)"):
             self.raises(call("Exchange", "X", "Y", "Z"), "type", 0, 0, X=value)
         machine = self.cell(call("Exchange", "U", "X", "Y"), 0)
         self.assertEqual((machine.status(0), texts(machine, 0, 1)), ("done", ["1", "_1"]))
@@ -447,7 +448,7 @@ class Steps(unittest.TestCase):
 
     def test_send(self):
         self.waits(call("Send", "X", "Y"), "X", room=0)
-        for value in ("1", "a", "f(1)", "<cell 0>", "<proc 0>", "<port 0>", "<builtin 5>"):
+        for value in ("1", "a", "f(1)", "<cell 0>", "<proc 0>", "<port 0>", "<builtin 5>", "port", "port(1)"):
             self.raises(call("Send", "X", "Y"), "type", 0, 0, X=value)
         statement = seq(call("NewPort", "X", "U"), call("Send", "U", "Y"), call("Send", "U", "Z"))
         machine = steps(make(statement, GIVEN), 3)
@@ -477,11 +478,11 @@ class Steps(unittest.TestCase):
 
     def test_the_end_stays_behind_a_failure(self):
         caught = ("try", call("Send", "U", "Y"), "E", SKIP)
-        machine = make(seq(call("NewPort", "X", "U"), caught, call("Send", "U", "Z")), GIVEN, X="cons(7 _1)", Y="8",
-                       Z="7")
-        steps(machine, 7)
-        self.assertEqual((machine.status(0), texts(machine, 0, 1, 2)), ("done", ["cons(7 _22)", "8", "7"]))
-        self.assertEqual(machine.given(0), 0)
+        sends = seq(call("Send", "U", "Z"), call("Send", "U", "Y"))
+        machine = make(seq(call("NewPort", "X", "U"), caught, sends), GIVEN, X="cons(7 _1)", Y="8", Z="7")
+        steps(machine, 9)
+        self.assertEqual((machine.status(0), raised(machine)), ("done", None))
+        self.assertRegex(text(machine, 0), r"^cons\(7 cons\(8 _[0-9]+\)\)$")
 
     def test_label_and_width(self):
         for name, results in (("Label", ["f", "g", "abc"]), ("Width", ["2", "6", "0"])):

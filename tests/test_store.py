@@ -318,6 +318,20 @@ class Infinite(unittest.TestCase):
         store.unify(x, node)
         return x
 
+    def test_circles(self):
+        store = Store()
+        x = self.circle(store, "fgh")
+        expected = (("tuple", "f", (1,)), ("tuple", "g", (2,)), ("tuple", "h", (0,)))
+        self.assertEqual(store.graph(x), expected)
+        y = store.tuple_of("p", [store.integer(1), x, store.tuple_of("q", [x, x])])
+        self.assertEqual(store.graph(y), (
+            ("tuple", "p", (1, 2, 5)), ("int", 1), ("tuple", "f", (3,)), ("tuple", "g", (4,)), ("tuple", "h", (2,)),
+            ("tuple", "q", (2, 2))))
+        z = store.variable()
+        store.unify(z, store.tuple_of("r", [z, x, z]))
+        self.assertEqual(store.graph(z), (
+            ("tuple", "r", (0, 1, 0)), ("tuple", "f", (2,)), ("tuple", "g", (3,)), ("tuple", "h", (1,))))
+
     def test_the_same_tree_made_equal(self):
         store = Store()
         x, y, z = self.circle(store, "fg"), self.circle(store, "fgfgfg"), self.circle(store, "fgfgf")
