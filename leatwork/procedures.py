@@ -1,4 +1,10 @@
-"""What the built-in procedures do (point 15)."""
+"""What the built-in procedures do (point 15).
+
+Each function takes the world of a machine and the nodes that are passed, does this there, and returns the answer
+(see world.py).
+"""
+
+from leatwork.graphs import parts_of
 
 
 def _wait(world, x):
@@ -48,23 +54,29 @@ def _send(world, p, x):
 
 
 def _label(world, x, y):
-    waiting = world.waiting((x,))
-    if waiting is not None:
-        return waiting
-    value = world.store.value(x)
-    if value[0] not in ("tuple", "atom"):
-        return world.raising("type")
-    return world.unified_with_new(y, ("atom", value[1]))
+    return _told_of(world, x, y, _label_of)
 
 
 def _width(world, x, y):
+    return _told_of(world, x, y, _width_of)
+
+
+def _told_of(world, x, y, asked):
     waiting = world.waiting((x,))
     if waiting is not None:
         return waiting
     value = world.store.value(x)
     if value[0] not in ("tuple", "atom"):
         return world.raising("type")
-    return world.unified_with_new(y, ("int", len(value[2]) if value[0] == "tuple" else 0))
+    return world.unified_with_new(y, asked(value))
+
+
+def _label_of(value):
+    return ("atom", value[1])
+
+
+def _width_of(value):
+    return ("int", len(parts_of(value)))
 
 
 def _part(world, x, n, y):
