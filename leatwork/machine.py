@@ -1,10 +1,8 @@
 """The machine (points 12 to 17)."""
 
-from leatwork.errors import NotReady
 from leatwork.forms import with_more
-from leatwork.outcomes import outcome_counts, outcome_texts
 from leatwork.programs import BUILT_IN
-from leatwork.statements import do_statement
+from leatwork.statements import do_frame
 from leatwork.threads import Crew, Thread
 from leatwork.world import World
 
@@ -19,86 +17,71 @@ class Machine:
         world = World()
         world.begin(len(given))
         nodes = with_more({}, given + BUILT_IN, world.given_nodes + world.built_in_nodes)
+        self.crew = Crew(world, MOST_THREADS)
+        self.crew.start(Thread([(statement, nodes)]))
         self._program = program
-        self._steps = 0
-        self._crew = Crew(world, MOST_THREADS)
-        self._crew.start(Thread([(statement, nodes)]))
 
     def threads(self):
         """Returns the number of threads."""
-        return len(self._crew.members)
+        return len(self.crew.members)
 
     def status(self, thread):
         """Returns the status of a thread."""
-        return self._crew.status(thread)
+        return self.crew.status(thread)
 
     def ready(self):
         """Returns the ascending list of the ready threads."""
-        return self._crew.with_status("ready")
+        return self.crew.with_status("ready")
 
     def waits_for(self, thread):
         """Returns the representative that a waiting thread waits for, or None."""
-        return self._crew.waits_for(thread)
+        return self.crew.waits_for(thread)
 
     def step(self, thread):
         """Takes a step of a thread; raises NotReady."""
-        if not 0 <= thread < self.threads() or self.status(thread) != "ready":
-            raise NotReady("the thread is not ready")
-        self._steps += 1
-        stepping = self._crew.members[thread]
-        stepping.waits = None
-        frame = stepping.stack.pop()
-        answer = do_statement(self._crew, stepping, frame[0], frame[1])
-        if answer is not None and answer[0] == "wait":
-            stepping.stack.append(frame)
-            stepping.waits = answer[1]
-        elif answer is not None:
-            stepping.throw(answer[1])
-        if not self._crew.start_due():
-            stepping.break_by(self._crew.world.raised_nodes["threads"])
+        stepping = self.crew.begin_step(thread)
+        self.crew.end_step(stepping, do_frame(self.crew, stepping))
 
     def choose(self, thread, second):
         """Lets a choosing thread choose; raises NotReady."""
-        if not 0 <= thread < self.threads() or self.status(thread) != "choosing":
-            raise NotReady("the thread is not choosing")
-        stack = self._crew.members[thread].stack
+        stack = self.crew.choosing(thread).stack
         statement, nodes = stack.pop()
         stack.append((statement[2] if second else statement[1], nodes))
 
     def raised(self, thread):
         """Returns the least graph of what broke a thread, or None; raises TooMany."""
-        node = self._crew.members[thread].broken_by
-        return None if node is None else self.graph(node)
+        return self.crew.raised(thread)
 
     def add(self, graph):
         """Makes the nodes of the least graph and returns the number of its root; raises TooMany."""
-        return self._crew.world.store.add(graph)
+        return self.crew.world.store.add(graph)
 
     def tell(self, first, second):
         """Makes two nodes equal from outside; raises Failed."""
-        self._crew.world.store.unify(first, second)
-        self._crew.start_due()
+        self.crew.tell(first, second)
 
     def given(self, index):
         """Returns the node of a given variable."""
-        return self._crew.world.given_nodes[index]
+        return self.crew.world.given_nodes[index]
 
     def graph(self, node):
         """Returns the least graph of the tree that a node stands for; raises TooMany."""
-        return self._crew.world.store.graph(node)
+        return self.crew.world.store.graph(node)
 
     def steps(self):
         """Returns the number of steps taken."""
-        return self._steps
+        return self.crew.taken
 
     def copy(self):
         """Returns a machine that behaves as this one, independent of it."""
+        return self.with_crew(self.crew.copy())
+
+    def with_crew(self, crew):
+        """Returns a machine of the same program with this crew."""
         other = Machine(self._program)
-        other._steps = self._steps
-        other._crew = self._crew.copy()
+        other.crew = crew
         return other
 
     def outcome(self):
         """Returns the outcome; raises TooMany."""
-        texts = outcome_texts([self.graph(node) for node in self._crew.world.given_nodes])
-        return texts, outcome_counts([self.status(k) for k in range(self.threads())])
+        return self.crew.outcome()

@@ -96,12 +96,28 @@ COUNTS = (1, 2, 2, 3, 2, 2, 2, 2, 3)
 ACTIONS = (_wait, _is_det, _new_cell, _exchange, _new_port, _send, _label, _width, _part)
 
 
-def count_of(number):
-    """Returns the number of parameters of a built-in procedure."""
-    return COUNTS[number]
+def called(world, x, passed):
+    """Does what the world itself does for a call of x, and returns a pair.
+
+    It is the answer and None, or None and what has to be entered now: that which a procedure has that is not built in.
+    """
+    waiting = world.waiting((x,))
+    if waiting is not None:
+        return waiting, None
+    number = world.built_in_number(x)
+    if number is not None:
+        return _done_built_in(world, number, passed), None
+    number = world.number_of(x, "proc")
+    if number is None:
+        return world.raising("type"), None
+    count, inside = world.named["proc"][number]
+    if count != len(passed):
+        return world.raising("arity"), None
+    return None, inside
 
 
-def do_built_in(world, number, nodes):
-    """Does a built-in procedure in the world, and returns the answer."""
+def _done_built_in(world, number, passed):
+    if COUNTS[number] != len(passed):
+        return world.raising("arity")
     action = ACTIONS[number]
-    return action(world, *nodes)
+    return action(world, *passed)

@@ -6,13 +6,18 @@ from leatwork.machine import Machine
 MOST_STEPS = 3000
 
 
+def picked(schedule, taken, many):
+    """Returns the index of the one of so many that a schedule picks, when so many were taken before."""
+    # Behind the schedule it is always the first one.
+    return schedule[taken] % many if taken < len(schedule) else 0
+
+
 def run(machine, schedule):
     """Runs the machine, which is changed by it, and returns the number of steps taken."""
     taken = 0
     ready = machine.ready()
     while ready and taken < MOST_STEPS:
-        n = schedule[taken] if taken < len(schedule) else 0
-        machine.step(ready[n % len(ready)])
+        machine.step(ready[picked(schedule, taken, len(ready))])
         taken += 1
         ready = machine.ready()
     return taken

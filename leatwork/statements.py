@@ -5,9 +5,11 @@ identifiers. It does the statement with them, and returns the answer (see world.
 """
 
 from leatwork.forms import with_more
+from leatwork.graphs import look, parts_of
 from leatwork.operations import operate
-from leatwork.procedures import count_of, do_built_in
+from leatwork.procedures import called
 from leatwork.threads import Thread
+from leatwork.world import has_to_wait
 
 MOST_FRAMES = 200
 
@@ -52,20 +54,15 @@ def _tuple(crew, thread, statement, nodes):
 
 def _proc(crew, thread, statement, nodes):
     _, x, ys, body = statement
-    return crew.world.unified_with_name(nodes[x], "proc", (ys, body, nodes))
+    return crew.world.unified_with_name(nodes[x], "proc", (len(ys), (ys, body, nodes)))
 
 
 def _if(crew, thread, statement, nodes):
     _, x, first, second = statement
-    waiting = crew.world.waiting((nodes[x],))
-    if waiting is not None:
-        return waiting
-    value = crew.world.store.value(nodes[x])
-    if value == ("atom", "true"):
-        return _put(crew, thread, [(first, nodes)])
-    if value == ("atom", "false"):
-        return _put(crew, thread, [(second, nodes)])
-    return crew.world.raising("type")
+    answer, truth = crew.world.truth_of(nodes[x])
+    if answer is not None:
+        return answer
+    return _put(crew, thread, [(first if truth else second, nodes)])
 
 
 def _case(crew, thread, statement, nodes):
@@ -74,32 +71,18 @@ def _case(crew, thread, statement, nodes):
     if waiting is not None:
         return waiting
     value = crew.world.store.value(nodes[x])
-    if pattern[0] != "tuple":
-        return _put(crew, thread, [(first if value == pattern else second, nodes)])
-    _, label, ys = pattern
-    if value[0] == "tuple" and value[1] == label and len(value[2]) == len(ys):
-        return _put(crew, thread, [(first, with_more(nodes, ys, value[2]))])
-    return _put(crew, thread, [(second, nodes)])
+    if look(value) != look(pattern):
+        return _put(crew, thread, [(second, nodes)])
+    return _put(crew, thread, [(first, with_more(nodes, parts_of(pattern), parts_of(value)))])
 
 
 def _call(crew, thread, statement, nodes):
-    x = nodes[statement[1]]
     passed = [nodes[y] for y in statement[2]]
-    waiting = crew.world.waiting((x,))
-    if waiting is not None:
-        return waiting
-    built_in = crew.world.built_in_number(x)
-    if built_in is not None:
-        if count_of(built_in) != len(passed):
-            return crew.world.raising("arity")
-        return do_built_in(crew.world, built_in, passed)
-    number = crew.world.number_of(x, "proc")
-    if number is None:
-        return crew.world.raising("type")
-    ys, body, outside = crew.world.named["proc"][number]
-    if len(ys) != len(passed):
-        return crew.world.raising("arity")
-    return _put(crew, thread, [(body, with_more(outside, ys, passed))])
+    answer, inside = called(crew.world, nodes[statement[1]], passed)
+    if inside is None:
+        return answer
+    ys, body, around = inside
+    return _put(crew, thread, [(body, with_more(around, ys, passed))])
 
 
 def _op(crew, thread, statement, nodes):
@@ -147,7 +130,12 @@ ACTIONS = {
 }
 
 
-def do_statement(crew, thread, statement, nodes):
-    """Does a statement, which is none that chooses, and returns the answer."""
+def do_frame(crew, thread):
+    """Takes the topmost frame of a thread away, which is none that chooses, does it, and returns the answer."""
+    frame = thread.stack.pop()
+    statement, nodes = frame
     action = ACTIONS[statement[0]]
-    return action(crew, thread, statement, nodes)
+    answer = action(crew, thread, statement, nodes)
+    if has_to_wait(answer):
+        thread.stack.append(frame)
+    return answer

@@ -1,6 +1,9 @@
 """The threads of a machine, and the triggers that start some (points 13 and 14)."""
 
+from leatwork.errors import NotReady
 from leatwork.forms import with_more
+from leatwork.outcomes import outcome_counts, outcome_texts
+from leatwork.world import has_to_wait
 
 
 class Thread:
@@ -42,12 +45,16 @@ class Thread:
 
 
 class Crew:
-    """The threads of a machine, and its triggers: pairs of a variable and a thread that is not started."""
+    """The threads of a machine, and its triggers: pairs of a variable and a thread that is not started.
+
+    It is all of a machine but for what a step of a thread does.
+    """
 
     def __init__(self, world, most):
         self.world = world
         self.members = []
-        self._triggers = []
+        self.triggers = []
+        self.taken = 0
         self._most = most
 
     def copy(self):
@@ -55,8 +62,34 @@ class Crew:
         other = Crew(self.world.copy(), self._most)
         other.members = [thread.copy() for thread in self.members]
         # What a trigger starts is never changed, so it may be in both.
-        other._triggers = list(self._triggers)
+        other.triggers = list(self.triggers)
+        other.taken = self.taken
         return other
+
+    def begin_step(self, number):
+        """Returns a thread that is to take a step now; raises NotReady."""
+        thread = self._with_status(number, "ready")
+        thread.waits = None
+        self.taken += 1
+        return thread
+
+    def end_step(self, thread, answer):
+        """Gives a thread the answer of its step, and starts what is due behind it."""
+        if has_to_wait(answer):
+            thread.waits = answer[1]
+        elif answer is not None:
+            thread.throw(answer[1])
+        if not self.start_due():
+            thread.break_by(self.world.raised_nodes["threads"])
+
+    def choosing(self, number):
+        """Returns a thread that is choosing; raises NotReady."""
+        return self._with_status(number, "choosing")
+
+    def _with_status(self, number, status):
+        if not 0 <= number < len(self.members) or self.status(number) != status:
+            raise NotReady("the thread has another status")
+        return self.members[number]
 
     def status(self, number):
         """Returns the status of a thread."""
@@ -92,7 +125,7 @@ class Crew:
         """Starts a thread as soon as x is needed, and returns the answer."""
         if self._is_needed(x, self._waited_for()):
             return self.start(thread)
-        self._triggers.append((x, thread))
+        self.triggers.append((x, thread))
         return None
 
     def _waited_for(self):
@@ -103,13 +136,28 @@ class Crew:
 
     def start_due(self):
         """Starts what triggers are to start now, and takes them away; tells whether there was room for all of it."""
-        if not self._triggers:
+        if not self.triggers:
             return True
         waited_for = self._waited_for()
         due, rest = [], []
-        for x, thread in self._triggers:
+        for x, thread in self.triggers:
             rows = due if self._is_needed(x, waited_for) else rest
             rows.append((x, thread))
-        self._triggers = rest
+        self.triggers = rest
         answers = [self.start(thread.copy()) for _, thread in due]
         return all([answer is None for answer in answers])
+
+    def tell(self, first, second):
+        """Makes two nodes equal from outside; raises Failed."""
+        self.world.store.unify(first, second)
+        self.start_due()
+
+    def raised(self, number):
+        """Returns the least graph of what broke a thread, or None; raises TooMany."""
+        node = self.members[number].broken_by
+        return None if node is None else self.world.store.graph(node)
+
+    def outcome(self):
+        """Returns the outcome; raises TooMany."""
+        texts = outcome_texts([self.world.store.graph(node) for node in self.world.given_nodes])
+        return texts, outcome_counts([self.status(k) for k in range(len(self.members))])

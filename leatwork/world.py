@@ -12,6 +12,11 @@ from leatwork.store import MOST_STORE, Store
 RAISED = ("failure", "type", "arity", "range", "threads", "memory", "stack")
 
 
+def has_to_wait(answer):
+    """Tells whether it is an answer that waits."""
+    return answer is not None and answer[0] == "wait"
+
+
 class World:
     """A store, the nodes in it that are known from the beginning on, procedures, cells and ports."""
 
@@ -20,7 +25,8 @@ class World:
         self.given_nodes = []
         self.built_in_nodes = []
         self.raised_nodes = {}
-        # What each procedure has, what each cell holds, and the end of each port, by their numbers.
+        # By their numbers: for each procedure how many parameters it has and what a call of it enters, for each
+        # cell what it holds, for each port its end. None stands for one that was not needed any more.
         self.named = {"proc": [], "cell": [], "port": []}
 
     def begin(self, many):
@@ -49,6 +55,16 @@ class World:
             if not self.store.is_bound(node):
                 return ("wait", node)
         return None
+
+    def truth_of(self, x):
+        """Returns None and whether x is `true`, or the answer if it is neither `true` nor `false`, and None."""
+        waiting = self.waiting((x,))
+        if waiting is not None:
+            return waiting, None
+        value = self.store.value(x)
+        if value not in (("atom", "true"), ("atom", "false")):
+            return self.raising("type"), None
+        return None, value[1] == "true"
 
     def lacks_room(self, many):
         """Tells whether the store has no room for so many nodes."""
@@ -82,9 +98,10 @@ class World:
     def number_of(self, x, word):
         """Returns the number of the procedure, cell or port that x is, or None if it is none."""
         value = self.store.value(x)
-        if value[0] == "name" and value[1] == word and value[2] < len(self.named[word]):
-            return value[2]
-        return None
+        if value[0] != "name" or value[1] != word or value[2] >= len(self.named[word]):
+            return None
+        # Only `add` can bring in the name of one that is gone.
+        return None if self.named[word][value[2]] is None else value[2]
 
     def built_in_number(self, x):
         """Returns the number of the built-in procedure that x is, or None if it is none."""

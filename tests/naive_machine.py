@@ -33,8 +33,11 @@ class NaiveMachine:
         if room is not None:
             self.store.fill(2000 - room - len(self.store.nodes))
         self.procedures, self.cells, self.ports, self.triggers = [], [], [], []
-        self.threads = [{"stack": [(statement, nodes)], "waits": None, "broken": None}]
+        self.threads = [self.new_thread(statement, nodes)]
         self.steps = 0
+
+    def new_thread(self, statement, nodes):
+        return {"stack": [(statement, nodes)], "waits": None, "broken": None}
 
     def status(self, number):
         thread = self.threads[number]
@@ -90,7 +93,7 @@ class NaiveMachine:
         for _, s, nodes in due:
             if len(self.threads) == 60:
                 return False
-            self.threads.append({"stack": [(s, nodes)], "waits": None, "broken": None})
+            self.threads.append(self.new_thread(s, nodes))
         return True
 
     def throw(self, thread, node):
@@ -138,7 +141,13 @@ class NaiveMachine:
     def start(self, s, nodes):
         if len(self.threads) == 60:
             raise self.raised("threads")
-        self.threads.append({"stack": [(s, nodes)], "waits": None, "broken": None})
+        self.threads.append(self.new_thread(s, nodes))
+
+    def do_need(self, x, s, nodes):
+        if self.store.is_bound(x) or self.store.representative(x) in self.awaited():
+            self.start(s, nodes)
+        else:
+            self.triggers.append((x, s, nodes))
 
     def do(self, thread, statement, nodes):
         word, *rest = statement
@@ -167,17 +176,13 @@ class NaiveMachine:
         elif word == "case":
             self.do_case(thread, nodes, *rest)
         elif word == "call":
-            self.do_call(thread, nodes, *rest)
+            self.do_call(thread, nodes[rest[0]], [nodes[y] for y in rest[1]])
         elif word == "op":
-            self.do_op(nodes, *rest)
+            self.do_op(rest[0], *[nodes[y] for y in rest[1:]])
         elif word == "thread":
             self.start(rest[0], nodes)
         elif word == "need":
-            x = nodes[rest[0]]
-            if self.store.is_bound(x) or self.store.representative(x) in self.awaited():
-                self.start(rest[1], nodes)
-            else:
-                self.triggers.append((x, rest[1], nodes))
+            self.do_need(nodes[rest[0]], rest[1], nodes)
         elif word == "try":
             self.put(thread, ("handler", rest[1], rest[2], nodes), (rest[0], nodes))
         elif word == "raise":
@@ -194,27 +199,30 @@ class NaiveMachine:
                 nodes = {**nodes, **dict(zip(pattern[2], value[2]))}
         self.put(thread, (s if met else t, nodes))
 
-    def do_call(self, thread, nodes, x, ys):
-        value = self.wait(nodes[x])
+    def do_call(self, thread, x, passed):
+        value = self.wait(x)
         if value[:2] == ("name", "builtin"):
             name = BUILT_IN[value[2]]
-            if PARAMETERS[name] != len(ys):
+            if PARAMETERS[name] != len(passed):
                 raise self.raised("arity")
-            getattr(self, "do_" + name)(*[nodes[y] for y in ys])
+            getattr(self, "do_" + name)(*passed)
         elif value[:2] == ("name", "proc"):
-            parameters, body, outside = self.procedures[value[2]]
-            if len(parameters) != len(ys):
-                raise self.raised("arity")
-            self.put(thread, (body, {**outside, **{p: nodes[y] for p, y in zip(parameters, ys)}}))
+            self.enter(thread, self.procedures[value[2]], passed)
         else:
             raise self.raised("type")
 
-    def do_op(self, nodes, sign, x, y, z):
+    def enter(self, thread, procedure, passed):
+        parameters, body, outside = procedure
+        if len(parameters) != len(passed):
+            raise self.raised("arity")
+        self.put(thread, (body, {**outside, **dict(zip(parameters, passed))}))
+
+    def do_op(self, sign, x, y, z):
         if sign == "==":
-            result = ("atom", "true" if self.same_trees(nodes[y], nodes[z]) else "false")
+            result = ("atom", "true" if self.same_trees(y, z) else "false")
         else:
-            first = self.wait(nodes[y])
-            second = self.wait(nodes[z])
+            first = self.wait(y)
+            second = self.wait(z)
             if (first[0], second[0]) != ("int", "int"):
                 raise self.raised("type")
             a, b = first[1], second[1]
@@ -225,7 +233,7 @@ class NaiveMachine:
                 if abs(result[1]) > 10 ** 9:
                     raise self.raised("range")
         self.room(1)
-        self.unify(nodes[x], self.store.make(*result))
+        self.unify(x, self.store.make(*result))
 
     def same_trees(self, y, z):
         level = [(self.store.representative(y), self.store.representative(z))]

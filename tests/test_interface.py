@@ -3,9 +3,11 @@
 import inspect
 import unittest
 
-from leatwork import errors, machine, programs, schedules, store
+from leatwork import codemachine, codes, collecting, errors, machine, programs, schedules, spaces, store
+from leatwork.codemachine import CodeMachine
 from leatwork.errors import BadProgram, Failed, LeatworkError, NotReady, TooMany
 from leatwork.machine import Machine
+from leatwork.spaces import Space
 from leatwork.store import Store
 from tests import drawn
 from tests.build import SKIP
@@ -14,18 +16,26 @@ FUNCTIONS = [
     (programs, "check", ["program"]), (programs, "uses", ["statement"]), (programs, "is_declarative", ["program"]),
     (programs, "renamed", ["program", "names"]), (schedules, "run", ["machine", "schedule"]),
     (schedules, "outcome_by", ["program", "schedule"]), (schedules, "all_outcomes", ["program", "most"]),
+    (codes, "is_code", ["value"]), (codes, "compiled", ["program"]), (collecting, "node_count", ["machine"]),
+    (collecting, "needed", ["machine"]), (collecting, "collected", ["machine"]),
 ]
+
+MACHINE_METHODS = {
+    "threads": [], "status": ["thread"], "ready": [], "waits_for": ["thread"], "step": ["thread"],
+    "choose": ["thread", "second"], "raised": ["thread"], "add": ["graph"], "tell": ["first", "second"],
+    "given": ["index"], "graph": ["node"], "steps": [], "copy": [], "outcome": []}
 
 METHODS = {
     Store: {
         "__init__": [], "variable": [], "integer": ["n"], "atom": ["a"], "name": ["a", "n"],
         "tuple_of": ["a", "parts"], "add": ["graph"], "unify": ["first", "second"], "would_unify": ["first", "second"],
         "representative": ["node"], "value": ["node"], "graph": ["node"], "size": [], "copy": []},
-    Machine: {
-        "__init__": ["program"], "threads": [], "status": ["thread"], "ready": [], "waits_for": ["thread"],
-        "step": ["thread"], "choose": ["thread", "second"], "raised": ["thread"], "add": ["graph"],
-        "tell": ["first", "second"], "given": ["index"], "graph": ["node"], "steps": [], "copy": [], "outcome": []},
+    Machine: {"__init__": ["program"], **MACHINE_METHODS},
+    CodeMachine: {"__init__": ["code"], **MACHINE_METHODS},
+    Space: {"__init__": ["program"], "ask": [], "commit": ["second"], "tell": ["index", "graph"], "trees": [],
+            "outcome": [], "copy": []},
 }
+MODULES = {Store: store, Machine: machine, CodeMachine: codemachine, Space: spaces}
 
 
 def mutable_in(value):
@@ -45,6 +55,13 @@ def answers(seed):
     one = Machine(program)
     found.append(schedules.run(one, [2, 1]))
     found.append([one.ready(), one.outcome(), one.steps(), [one.raised(k) for k in range(one.threads())]])
+    space = Space(program)
+    found.append([space.trees(), space.ask(), space.trees(), space.outcome()])
+    code = codes.compiled(program)
+    other = CodeMachine(code)
+    found.append([codes.is_code(code), schedules.run(other, [3, 1]), other.ready(), other.outcome()])
+    small = collecting.collected(one)
+    found.append([collecting.needed(one), collecting.node_count(one), small.ready(), collecting.needed(small)])
     try:
         found.append(schedules.all_outcomes(program, 200))
     except TooMany:
@@ -67,7 +84,8 @@ class Interface(unittest.TestCase):
             for name, arguments in methods.items():
                 with self.subTest(name):
                     self.assertEqual(list(inspect.signature(vars(made)[name]).parameters), ["self"] + arguments)
-        self.assertEqual((Store.__module__, Machine.__module__), ("leatwork.store", "leatwork.machine"))
+            self.assertEqual(made.__module__, MODULES[made].__name__)
+            self.assertIs(vars(MODULES[made])[made.__name__], made)
 
     def test_constants(self):
         self.assertEqual((vars(store)["MOST_STORE"], vars(machine)["MOST_THREADS"]), (2000, 60))
@@ -83,6 +101,9 @@ class Interface(unittest.TestCase):
     def test_kinds_of_copies(self):
         self.assertIs(type(Store().copy()), Store)
         self.assertIs(type(Machine(((), SKIP)).copy()), Machine)
+        self.assertIs(type(collecting.collected(Machine(((), SKIP)))), Machine)
+        self.assertIs(type(CodeMachine(((0, 0, (("end",),)),)).copy()), CodeMachine)
+        self.assertIs(type(Space(((), SKIP)).copy()), Space)
 
 
 class Calls(unittest.TestCase):
@@ -103,7 +124,14 @@ class Calls(unittest.TestCase):
         text = repr(program)
         schedule, names = [3, 2, 1], {"A": "B"}
         schedules.outcome_by(program, schedule)
-        schedules.run(Machine(program), schedule)
+        machine = Machine(program)
+        schedules.run(machine, schedule)
+        codes.is_code(codes.compiled(program))
+        Space(program).ask()
+        before = (machine.outcome(), machine.steps(), collecting.needed(machine))
+        schedules.run(collecting.collected(machine), schedule)
+        collecting.needed(machine).clear()
+        self.assertEqual((machine.outcome(), machine.steps(), collecting.needed(machine)), before)
         try:
             programs.renamed(program, names)
         except BadProgram:
