@@ -3,12 +3,15 @@
 import inspect
 import unittest
 
-from leatwork import codemachine, codes, collecting, errors, machine, programs, schedules, spaces, store
+from leatwork import (
+    codemachine, codes, collecting, errors, machine, programs, schedules, search, sites, spaces, store, teams, traces)
 from leatwork.codemachine import CodeMachine
 from leatwork.errors import BadProgram, Failed, LeatworkError, NotReady, TooMany
 from leatwork.machine import Machine
+from leatwork.sites import Net
 from leatwork.spaces import Space
 from leatwork.store import Store
+from leatwork.teams import Team
 from tests import drawn
 from tests.build import SKIP
 
@@ -17,7 +20,10 @@ FUNCTIONS = [
     (programs, "renamed", ["program", "names"]), (schedules, "run", ["machine", "schedule"]),
     (schedules, "outcome_by", ["program", "schedule"]), (schedules, "all_outcomes", ["program", "most"]),
     (codes, "is_code", ["value"]), (codes, "compiled", ["program"]), (collecting, "node_count", ["machine"]),
-    (collecting, "needed", ["machine"]), (collecting, "collected", ["machine"]),
+    (collecting, "needed", ["machine"]), (collecting, "collected", ["machine"]), (search, "solutions", ["program"]),
+    (search, "first_solution", ["program"]), (search, "replayed", ["program", "path"]), (search, "shape", ["program"]),
+    (teams, "together", ["programs"]), (traces, "trace", ["program", "schedule"]),
+    (traces, "replay", ["program", "events"]), (traces, "causes", ["events", "index"]), (traces, "longest", ["events"]),
 ]
 
 MACHINE_METHODS = {
@@ -34,8 +40,14 @@ METHODS = {
     CodeMachine: {"__init__": ["code"], **MACHINE_METHODS},
     Space: {"__init__": ["program"], "ask": [], "commit": ["second"], "tell": ["index", "graph"], "trees": [],
             "outcome": [], "copy": []},
+    Net: {"__init__": ["sites"], "make": ["site"], "know": ["site", "x"], "tell": ["site", "x", "graph"], "pending": [],
+          "deliver": ["sender", "receiver"], "settle": ["schedule"], "knows": ["site", "x"], "value": ["site", "x"],
+          "failed": ["site"], "copy": []},
+    Team: {"__init__": ["programs"], "moves": [], "move": ["index"], "play": ["schedule"], "outcome": ["site"],
+           "failed": ["site"], "copy": []},
 }
-MODULES = {Store: store, Machine: machine, CodeMachine: codemachine, Space: spaces}
+MODULES = {
+    Store: store, Machine: machine, CodeMachine: codemachine, Space: spaces, Net: sites, Team: teams}
 
 
 def mutable_in(value):
@@ -44,6 +56,13 @@ def mutable_in(value):
     if isinstance(value, dict):
         value = list(value.values())
     return found + [part for row in value for part in mutable_in(row)] if isinstance(value, (list, tuple)) else found
+
+
+def played(team):
+    try:
+        return team.play([3, 1, 4])
+    except TooMany:
+        return "too many"
 
 
 def answers(seed):
@@ -62,6 +81,20 @@ def answers(seed):
     found.append([codes.is_code(code), schedules.run(other, [3, 1]), other.ready(), other.outcome()])
     small = collecting.collected(one)
     found.append([collecting.needed(one), collecting.node_count(one), small.ready(), collecting.needed(small)])
+    events = traces.trace(program, [2, 1])
+    found.append([events, traces.longest(events), traces.causes(events, 0), traces.replay(program, events)])
+    team = teams.Team([program, program])
+    found.append([team.moves(), team.failed(0)])
+    found.append([played(team), team.moves(), team.outcome(1), teams.together([program])])
+    net = Net(2)
+    net.make(0)
+    net.tell(0, 0, (("tuple", "f", (0,)),))
+    found.append([net.pending(), net.settle([seed]), net.value(1, 0)])
+    for ask in (search.solutions, search.first_solution, search.shape):
+        try:
+            found.append(ask(program))
+        except TooMany:
+            found.append("too many")
     try:
         found.append(schedules.all_outcomes(program, 200))
     except TooMany:
@@ -88,7 +121,11 @@ class Interface(unittest.TestCase):
             self.assertIs(vars(MODULES[made])[made.__name__], made)
 
     def test_constants(self):
-        self.assertEqual((vars(store)["MOST_STORE"], vars(machine)["MOST_THREADS"]), (2000, 60))
+        for module, name, number in [(store, "MOST_STORE", 2000), (machine, "MOST_THREADS", 60),
+                                     (search, "MOST_KNOTS", 200), (sites, "MOST_MAIL", 5000)]:
+            self.assertEqual(vars(module)[name], number)
+            # It is defined in that very file.
+            self.assertIn(f"\n{name} = {number}\n", inspect.getsource(module))
         self.assertEqual(type(vars(programs)["BUILT_IN"]), tuple)
 
     def test_errors(self):
@@ -104,6 +141,8 @@ class Interface(unittest.TestCase):
         self.assertIs(type(collecting.collected(Machine(((), SKIP)))), Machine)
         self.assertIs(type(CodeMachine(((0, 0, (("end",),)),)).copy()), CodeMachine)
         self.assertIs(type(Space(((), SKIP)).copy()), Space)
+        self.assertIs(type(Net(2).copy()), Net)
+        self.assertIs(type(Team([((), SKIP)]).copy()), Team)
 
 
 class Calls(unittest.TestCase):
@@ -128,6 +167,17 @@ class Calls(unittest.TestCase):
         schedules.run(machine, schedule)
         codes.is_code(codes.compiled(program))
         Space(program).ask()
+        search.replayed(program, (True, False))
+        programs_of_a_team = [program, program]
+        played(Team(programs_of_a_team))
+        teams.together(programs_of_a_team[:1])
+        self.assertEqual(programs_of_a_team, [program, program])
+        events = traces.trace(program, schedule)
+        kept = list(events)
+        traces.replay(program, events)
+        traces.causes(events, len(events) - 1)
+        traces.longest(events)
+        self.assertEqual(events, kept)
         before = (machine.outcome(), machine.steps(), collecting.needed(machine))
         schedules.run(collecting.collected(machine), schedule)
         collecting.needed(machine).clear()
