@@ -23,7 +23,7 @@ class Move:
         """Returns the number of a needed node in the new store."""
         return self._numbers[self.store.representative(node)]
 
-    def known(self, xs, nodes):
+    def nodes_for(self, xs, nodes):
         """Returns the nodes of the identifiers and of the built-in procedures in the new store, as a dict."""
         return {x: self.of(nodes[x]) for x in [*xs, *BUILT_IN]}
 
@@ -123,24 +123,29 @@ def _moved_world(world, move):
     result.given_nodes = [move.of(node) for node in world.given_nodes]
     result.built_in_nodes = [move.of(node) for node in world.built_in_nodes]
     result.raised_nodes = {word: move.of(node) for word, node in world.raised_nodes.items()}
-    result.named = {word: [None] * len(rows) for word, rows in world.named.items()}
-    for word in world.named:
-        for node in move.kept:
-            number = world.number_of(node, word)
-            if number is not None:
-                result.named[word][number] = _moved_named(word, world.named[word][number], move)
+    result.named = {word: _moved_named(world, word, move) for word in world.named}
     return result
 
 
-def _moved_named(word, what, move):
+def _moved_named(world, word, move):
+    """Returns what the new world has for the procedures, cells or ports, with None for those that are not needed."""
+    rows = [None] * len(world.named[word])
+    for node in move.kept:
+        number = world.number_of(node, word)
+        if number is not None:
+            rows[number] = _moved_entry(word, world.named[word][number], move)
+    return rows
+
+
+def _moved_entry(word, what, move):
     if word != "proc":
         return move.of(what)
     count, (ys, body, nodes) = what
-    return count, (ys, body, move.known(_used_inside(ys, body), nodes))
+    return count, (ys, body, move.nodes_for(_used_inside(ys, body), nodes))
 
 
 def _moved_thread(thread, move):
-    result = Thread([(statement, move.known(_used_in_frame(statement), nodes)) for statement, nodes in thread.stack])
+    result = Thread([(statement, move.nodes_for(_used_in_frame(statement), nodes)) for statement, nodes in thread.stack])
     # What a thread waits for is needed, unless it is bound already.
     if thread.waits is not None and move.has(thread.waits):
         result.waits = move.of(thread.waits)

@@ -84,6 +84,10 @@ class Member:
         other._told = View(self._told.store.copy(), self._told.nodes)
         return other
 
+    def fail(self):
+        """Lets the site fail."""
+        self.has_failed = True
+
     def receive(self, letter):
         """Makes what a letter says hold here; raises Failed or TooMany."""
         for first, second in self._own.read(letter):

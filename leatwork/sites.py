@@ -25,12 +25,20 @@ class Site:
         for _ in range(MOST_SHARED):
             self._store.variable()
 
+    def fail(self):
+        """Lets the site fail."""
+        self.has_failed = True
+
+    def know(self, x):
+        """Lets the site know a shared variable."""
+        self.known[x] = True
+
     def learn(self, x, graph):
         """Makes a shared variable equal to the tree of a least graph; raises TooMany or Failed."""
         made = [k for k, node in enumerate(graph) if node[0] != "var"]
         numbers = {k: node[1] for k, node in enumerate(graph) if node[0] == "var"}
         for y in [x, *list(numbers.values())]:
-            self.known[y] = True
+            self.know(y)
         begin = self._store.size()
         for place, k in enumerate(made):
             numbers[k] = begin + place
@@ -69,13 +77,13 @@ class Net:
         if self._made == MOST_SHARED:
             raise TooMany("there are too many shared variables")
         self._made += 1
-        self._sites[site].known[self._made - 1] = True
+        self._sites[site].know(self._made - 1)
         return self._made - 1
 
     def know(self, site, x):
         """Lets the site know a shared variable; raises Failed."""
         self._check(site)
-        self._sites[site].known[x] = True
+        self._sites[site].know(x)
 
     def tell(self, site, x, graph):
         """Makes a shared variable equal to a tree, at a site; raises Failed."""
@@ -97,7 +105,7 @@ class Net:
             self._fail(site)
 
     def _fail(self, site):
-        self._sites[site].has_failed = True
+        self._sites[site].fail()
         self._mail.send(site, FAILURE)
 
     def pending(self):

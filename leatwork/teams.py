@@ -46,6 +46,8 @@ class Team:
                 self._arrive(other, message)
 
     def _arrive(self, site, message):
+        # Whatever hangs together with something shared was told when it did so. So nothing new follows here from what
+        # arrives but what follows from it elsewhere, too.
         if message == FAILURE:
             self._fail(site)
             return
@@ -53,8 +55,6 @@ class Team:
             self._members[site].receive(message)
         except (Failed, TooMany):
             self._fail(site)
-            return
-        self._tell_news(site)
 
     def _tell_news(self, site):
         try:
@@ -66,7 +66,7 @@ class Team:
             self._mail.send(site, letter)
 
     def _fail(self, site):
-        self._members[site].has_failed = True
+        self._members[site].fail()
         self._mail.send(site, FAILURE)
 
     def play(self, schedule):

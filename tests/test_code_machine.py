@@ -544,6 +544,28 @@ class Copies(unittest.TestCase):
                 self.assertEqual(self.asked(one), self.asked(other))
 
 
+    def test_registers_handlers_places_and_triggers_are_their_own(self):
+        unit = (1, 1, (("int", 0, 9), END))
+        rows = [("choose", 5), ("copy", 10, X), ("try", 8, 11), ("need", U, 1, (Z,)), ("jump", 6), ("copy", 10, Y),
+                ("int", 10, 3), ("raise", 10), ("int", 11, 4)]
+        for first in (False, True):
+            machine = make(*rows, others=(unit,))
+            copied = machine.copy()
+            machine.choose(0, first)
+            copied.choose(0, not first)
+            one, other = (copied, machine) if first else (machine, copied)
+            # One step of the one, and one of the other, as long as they can.
+            for _ in range(10):
+                for each in (machine, copied):
+                    if each.ready():
+                        each.step(0)
+            self.assertEqual((one.status(0), raised(one), texts(one, X, Y)), ("broken", "failure", ["3", "_1"]))
+            self.assertEqual((other.status(0), raised(other), texts(other, X, Y)), ("broken", "3", ["_0", "3"]))
+            for each, threads in ((one, 2), (other, 1)):
+                bind(each, U, "1")
+                self.assertEqual(each.threads(), threads)
+
+
 def run_some(machine, many):
     """Takes steps and chooses, the first one of both."""
     for _ in range(many):

@@ -132,6 +132,15 @@ class Needed(unittest.TestCase):
         run(other, [])
         self.assertEqual(texts(other, 0, 1), ["<proc 1>", "<proc 3>"])
 
+    def test_the_name_of_a_procedure_that_is_gone(self):
+        """Only `add` can bring it back; it is no procedure any more."""
+        machine = make(seq(local("P", ("proc", "P", (), SKIP)), call("X"), ("proc", "Y", (), SKIP)))
+        run(machine, [])
+        other = collected(machine)
+        bind(other, 0, "<proc 0>")
+        run(other, [])
+        self.assertEqual((raised(other), texts(collected(other), 0)), ("type", ["<proc 0>"]))
+
     def test_cells_and_ports(self):
         statement = local("C P A B E", call("NewCell", "A", "C"), call("NewPort", "B", "P"), call("NewCell", "P", "X"),
                           ("int", "A", 5), call("Wait", "Y"), call("Exchange", "C", "Z", "E"), call("Send", "P", "A"))

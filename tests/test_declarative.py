@@ -3,12 +3,13 @@
 import random
 import unittest
 
-from leatwork.errors import BadProgram, TooMany
+from leatwork.errors import TooMany
 from leatwork.graphs import compare
 from leatwork.machine import Machine
 from leatwork.programs import check, is_declarative
 from leatwork.schedules import all_outcomes, outcome_by, run
 from tests import drawn
+from tests.agreeing import is_good
 from tests.build import call, local, op, seq
 from tests.machines import size, statuses
 
@@ -16,18 +17,10 @@ from tests.machines import size, statuses
 def programs(seeds, size_of_each, **options):
     for seed in seeds:
         program = drawn.program(seed, size_of_each, declarative=True, tame=True, **options)
+        # A few of the drawn ones are nested too deep.
         if is_good(program):
             assert is_declarative(program)
             yield program
-
-
-def is_good(program):
-    """A few of the drawn ones are nested too deep."""
-    try:
-        check(program)
-    except BadProgram:
-        return False
-    return True
 
 
 def raises_nothing(machine):

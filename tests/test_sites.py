@@ -241,6 +241,20 @@ class Messages(unittest.TestCase):
         net.settle([])
         self.assertEqual([says(net, site, x) for site in (0, 1) for x in (0, 1)], ["f(1)", "2", "f(1)", "2"])
 
+    def test_the_oldest_one_first(self):
+        net = net_of(3, 4)
+        for x in range(4):
+            net.tell(0, x, (("int", x),))
+        with self.assertRaises(Failed):
+            net.tell(0, 0, (("int", 5),))
+        while net.pending() and not net.failed(1):
+            before = [says(net, 1, x) for x in range(4)]
+            many = before.count("_0") + before.count("_1") + before.count("_2") + before.count("_3")
+            # What was told first is known first, and the word that the site has failed comes last.
+            self.assertEqual(before, [str(x) if x < 4 - many else f"_{x}" for x in range(4)])
+            net.deliver(0, 1)
+        self.assertEqual((many, net.failed(1), net.failed(2)), (0, True, False))
+
     def test_one_site(self):
         net = net_of(1, 3)
         net.tell(0, 0, (("tuple", "f", (1, 0)), ("var", 1)))

@@ -418,6 +418,18 @@ class Copies(unittest.TestCase):
             self.assertEqual(other.play(schedule), first)
             self.assertEqual(asked(one, sites), asked(other, sites))
 
+    def test_failed_sites(self):
+        team = team_of(("X", seq(("bind", "X", "Wait"), SKIP)), ("X", SKIP))
+        copied = team.copy()
+        for _ in range(2):
+            team.move(0)
+        self.assertEqual((failures(team, 2), failures(copied, 2)), ([True, False], [False, False]))
+        again = team.copy()
+        self.assertEqual((failures(again, 2), again.moves()), ([True, False], team.moves()))
+        for one in (team, copied, again):
+            one.play([])
+            self.assertEqual(failures(one, 2), [True, True])
+
     def test_the_list_of_programs_is_not_kept(self):
         programs = [program_of("X", ("int", "X", 1)), program_of("X", SKIP)]
         team = Team(programs)
