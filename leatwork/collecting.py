@@ -145,7 +145,8 @@ def _moved_entry(word, what, move):
 
 
 def _moved_thread(thread, move):
-    result = Thread([(statement, move.nodes_for(_used_in_frame(statement), nodes)) for statement, nodes in thread.stack])
+    frames = [(statement, move.nodes_for(_used_in_frame(statement), nodes)) for statement, nodes in thread.stack]
+    result = Thread(frames)
     # What a thread waits for is needed, unless it is bound already.
     if thread.waits is not None and move.has(thread.waits):
         result.waits = move.of(thread.waits)
