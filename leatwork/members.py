@@ -91,7 +91,9 @@ class Member:
     def receive(self, letter):
         """Makes what a letter says hold here; raises Failed or TooMany."""
         for first, second in self._own.read(letter):
-            self.machine.tell(first, second)
+            self._own.store.unify(first, second)
+        # Only behind the whole letter, so that triggers start in the order in which they were put.
+        self.machine.crew.start_due()
         self._note(letter)
 
     def _note(self, letter):

@@ -225,6 +225,23 @@ class Sharing(unittest.TestCase):
                                                             seq(("need", "X", ("int", "Z", 4)), call("Wait", "Y")))))
         self.assertEqual((texts(team, 1), team.outcome(1)[1]), (("_0", "_0", "4"), (("waiting", 1),)))
 
+    def test_the_order_of_two_triggers(self):
+        """One step binds both; the triggers start in the order in which they were put."""
+        one = local("A B T U", ("int", "A", 1), ("int", "B", 2), ("tuple", "T", "f", ("X", "Y")),
+                    ("tuple", "U", "f", ("A", "B")), (
+            "bind", "T", "U"))
+        for names in ("XY", "YX"):
+            other = seq(*[("need", name, ("int", "Z", k)) for k, name in enumerate(names)])
+            team = team_of(("X Y", one), ("X Y Z", other))
+            while ("step", 1, 0) in team.moves():
+                team.move(team.moves().index(("step", 1, 0)))
+            while ("step", 0, 0) in team.moves():
+                team.move(0)
+            team.move(0)
+            self.assertEqual((team.moves(), texts(team, 1)), ([("step", 1, 1), ("step", 1, 2)], ("1", "2", "_0")))
+            team.move(0)
+            self.assertEqual(texts(team, 1)[2], "0")
+
     def test_equal_variables(self):
         for schedule in ([], [1], [1, 1], [2, 1, 0]):
             team = played(team_of(("X Y", ("bind", "X", "Y")), ("X Y", SKIP), ("Y", ("int", "Y", 8))), schedule)
